@@ -1,0 +1,1 @@
+"""Everyweave: every different run of a program with threads, once."""
