@@ -9,6 +9,26 @@ PACKAGE = Path(__file__).resolve().parent.parent / "everyweave"
 # Each function and class that the document lists, with its arguments, or its methods with theirs.
 FUNCTIONS = {
     "programs.py": {"check_program": ["program"]},
+    "runs.py": {
+        "touching": ["run", "i", "j"],
+        "clocks": ["run"],
+        "before": ["run", "i", "j"],
+        "normal_form": ["run"],
+        "alike": ["first", "second"],
+        "all_runs": ["program", "memory"],
+    },
+    "explorer.py": {
+        "initials": ["run"],
+        "turnings": ["run"],
+        "turned": ["run", "i", "agent"],
+        "explore": ["program", "memory"],
+        "is_paper": ["program", "memory", "schedules"],
+    },
+    "things.py": {
+        "things": ["program", "memory"],
+        "ends": ["program", "memory"],
+        "shortest": ["program", "memory", "thing"],
+    },
 }
 CLASSES = {
     "machine.py": {
@@ -19,6 +39,13 @@ CLASSES = {
             "label": ["self", "agent"],
             "twin": ["self"],
             "state": ["self"],
+            "end": ["self"],
+        },
+    },
+    "runs.py": {
+        "Run": {
+            "__init__": ["self", "program", "memory", "schedule"],
+            "whole": ["self"],
             "end": ["self"],
         },
     },
