@@ -140,7 +140,7 @@ def may_turn(run, i):
     for j in range(i + 1, len(run.events)):
         if run.schedule[j] != agent and comes_to(run, i, j):
             return True
-    return "waiting" in [how for _, how, _ in run.end()[0]]
+    return "waiting" in [row[1] for row in run.end()[0]]
 
 
 def play_on(machine):
@@ -161,12 +161,19 @@ def count_beginnings(schedules):
     many = 0
     last = []
     for schedule in sorted(schedules):
-        same = 0
-        while same < len(last) and same < len(schedule) and last[same] == schedule[same]:
-            same += 1
-        many += len(schedule) - same
+        many += len(schedule) - count_shared(last, schedule)
         last = schedule
     return many
+
+
+def count_shared(first, second):
+    """How many agents two schedules have in common from their beginning on."""
+    shared = 0
+    for agent, other in zip(first, second):
+        if agent != other:
+            break
+        shared += 1
+    return shared
 
 
 def explore(program, memory):

@@ -112,11 +112,11 @@ def shortest(program, memory, thing):
 
 def is_told_thing(program, thing):
     """True for a tuple of the form of a told thing, whether it holds anywhere or not."""
-    if type(thing) is not tuple or len(thing) == 0 or type(thing[0]) is not str:
+    if type(thing) is not tuple or len(thing) == 0:
         return False
     word = thing[0]
     if word == "failed":
-        return len(thing) == 3 and is_number(thing[1]) and is_word(thing[2], FAILURES)
+        return len(thing) == 3 and is_number(thing[1]) and thing[2] in FAILURES
     if word == "cut":
         return len(thing) == 2 and is_number(thing[1])
     if word == "standstill":
@@ -129,10 +129,6 @@ def is_told_thing(program, thing):
 def is_number(number):
     """True for what may be the number of a thread, whether there is such a thread or not."""
     return is_integer(number, 0, GREATEST_NUMBER)
-
-
-def is_word(word, words):
-    return type(word) is str and word in words
 
 
 def is_race(program, variable, number, other):
@@ -164,7 +160,7 @@ def are_threads(threads):
         if not is_row(thread, 3, 3):
             return False
         number, how, registers = thread
-        if not is_integer(number, least, GREATEST_NUMBER) or not is_word(how, HOWS):
+        if not is_integer(number, least, GREATEST_NUMBER) or how not in HOWS:
             return False
         if not is_row(registers, REGISTERS, REGISTERS) or not all([is_value(value) for value in registers]):
             return False

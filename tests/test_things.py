@@ -70,8 +70,8 @@ class Things(unittest.TestCase):
         self.assertEqual(things(SMALL["plain race"], "sequential"), [("race", 0, 0, 1)])
 
     def test_each_word(self):
-        program = make_program((("assert", 1),), (("const", 1, 999), ("mul", 1, 1, 1)), (("jump", 0),), (("unlock", 0),),
-                               locks=1)
+        program = make_program((("assert", 1),), (("const", 1, 999), ("mul", 1, 1, 1)), (("jump", 0),),
+                               (("unlock", 0),), locks=1)
         self.assertEqual(things(program, "buffers"), [
             ("failed", 0, "assert"), ("failed", 1, "range"), ("failed", 2, "loop"), ("failed", 3, "held"),
         ])
@@ -195,7 +195,8 @@ class Ends(unittest.TestCase):
 
     def test_none_is_less_than_every_integer(self):
         # The thread 0 takes the lock or leaves it; threads and values are the same in both ends.
-        code = (("load", 1, 0), ("branch", 1, 4), ("lock", 0), ("stop",), ("const", 1, 0), ("stop",))
+        # It leaves it on the longer way, so that this end is found behind the other one.
+        code = (("load", 1, 0), ("branch", 1, 4), ("lock", 0), ("stop",), ("const", 1, 0), *fences(4), ("stop",))
         setting = (("swap", 1, 0, 0), ("swap", 1, 0, 2), ("const", 1, 0))
         program = make_program(code, setting, variables=shared(0), locks=1, threads=((0, 0), (1, 1)))
         for memory in MEMORIES:
@@ -310,12 +311,13 @@ class NoToldThings(unittest.TestCase):
 
     def test_failed(self):
         self.accept(*[("failed", t, word) for t in (0, 3, 11, 26, 27) for word in WORDS])
-        self.refuse(("failed",), ("failed", 0), ("failed", "assert"), ("failed", 0, "assert", 0), ["failed", 0, "assert"],
-                    ("failed", -1, "assert"), ("failed", 28, "assert"), ("failed", True, "assert"),
-                    ("failed", None, "assert"), ("failed", "0", "assert"), ("failed", 0, "finished"), ("failed", 0, "cut"),
-                    ("failed", 0, "waiting"), ("failed", 0, ""), ("failed", 0, None), ("failed", 0, 0),
-                    ("failed", 0, ["assert"]), ("failed", 0, ("assert",)), ("failed", "assert", 0), ("failed", 0.0, "held"),
-                    ("failed", [0], "held"), ("failed", 10 ** 30, "held"))
+        self.refuse(("failed",), ("failed", 0), ("failed", "assert"), ("failed", 0, "assert", 0),
+                    ["failed", 0, "assert"], ("failed", -1, "assert"), ("failed", 28, "assert"),
+                    ("failed", 10 ** 30, "assert"), ("failed", True, "assert"), ("failed", None, "assert"),
+                    ("failed", "0", "assert"), ("failed", 0.0, "assert"), ("failed", [0], "assert"),
+                    ("failed", "assert", 0))
+        for word in ("finished", "cut", "waiting", "Assert", "", None, 0, True, ["assert"], ("assert",), {}):
+            self.refuse(("failed", 0, word))
 
     def test_cut(self):
         self.accept(("cut", 0), ("cut", 27))
@@ -330,8 +332,9 @@ class NoToldThings(unittest.TestCase):
         self.accept(("race", 0, 0, 1), ("race", 0, 0, 27), ("race", 0, 26, 27), ("race", 0, 1, 2))
         self.refuse(("race",), ("race", 0), ("race", 0, 0), ("race", 0, 0, 1, 2), ("race", 0, 1, 0), ("race", 0, 1, 1),
                     ("race", 0, -1, 1), ("race", 0, 0, 28), ("race", 0, False, 1), ("race", 0, 0, True),
-                    ("race", False, 0, 1), ("race", 1, 0, 1), ("race", 2, 0, 1), ("race", -1, 0, 1), ("race", None, 0, 1),
-                    ("race", 0, None, 1), ("race", 0, 0, None), ("race", "0", 0, 1), ("race", 0, "0", 1),
+                    ("race", False, 0, 1), ("race", 1, 0, 1), ("race", 2, 0, 1), ("race", -1, 0, 1),
+                    ("race", None, 0, 1), ("race", 0, None, 1), ("race", 0, 0, None), ("race", "0", 0, 1),
+                    ("race", 0, "0", 1),
                     ["race", 0, 0, 1], ("race", 0, (0, 1)), ("race", -2, 0, 1))
 
     def test_ends(self):
@@ -347,7 +350,8 @@ class NoToldThings(unittest.TestCase):
         )
         self.refuse(
             ("end",), ("end", None), ("end", ()), ("end", (row,), values, locks), ("end", [(row,), values, locks]),
-            ["end", ((row,), values, locks)], ("end", ((row,), values)), ("end", ((row,), values, locks, ())),
+            ["end", ((row,), values, locks)], ("ends", ((row,), values, locks)), ("end", ((row,), values)),
+            ("end", ((row,), values, locks, ())),
             ("end", ((row,), values, locks), 0), ("end", 0), ("end", "end"), ("end", {}),
         )
 
