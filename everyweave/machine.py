@@ -2,11 +2,9 @@
 
 from everyweave.errors import BadArgument, BadSchedule
 from everyweave.programs import check_program
-from everyweave.threads import advance, begin, event_of, is_cut, pending
+from everyweave.threads import READERS, advance, begin, event_of, pending, rows_of
 
 MEMORIES = ("sequential", "buffers")
-
-READERS = ("load", "swap", "fetch", "cas", "await")
 
 # The instructions that a thread performs whatever its buffer holds.
 BUFFERED = ("load", "store", "await")
@@ -72,9 +70,7 @@ class Machine:
 
     def end(self):
         """The threads, the values and the locks, as the end of a run tells them."""
-        threads = [self.threads[number] for number in sorted(self.threads)]
-        rows = tuple([(thread.number, how_now(thread), tuple(thread.registers)) for thread in threads])
-        return (rows, tuple(self.variables), tuple(self.holders))
+        return (rows_of(self.threads), tuple(self.variables), tuple(self.holders))
 
     def _begin_thread(self, number, code, argument):
         self.threads[number] = begin(self.program, number, code, argument)
@@ -162,12 +158,6 @@ class Twin(Machine):
         self.threads = dict(other.threads)
         self.buffers = dict(other.buffers)
         self.flushes = dict(other.flushes)
-
-
-def how_now(thread):
-    if thread.how is not None:
-        return thread.how
-    return "cut" if is_cut(thread) else "waiting"
 
 
 def thread_state(thread):

@@ -39,16 +39,22 @@ def reached(first):
 
 def things_of(machine):
     """The told things other than ends that hold in the state of the machine."""
-    told = races_of(machine)
+    still = len(machine.able()) == 0
+    return races_of(machine) + told_of_threads(machine.end()[0], still)
+
+
+def told_of_threads(rows, still):
+    """What the threads of an end tell; it is still if nothing goes on."""
+    told = []
     waits = False
-    for number, how, _ in machine.end()[0]:
+    for number, how, _ in rows:
         if how == "cut":
             told.append(("cut", number))
         elif how == "waiting":
             waits = True
         elif how in FAILURES:
             told.append(("failed", number, how))
-    if waits and len(machine.able()) == 0:
+    if waits and still:
         told.append(("standstill",))
     return told
 

@@ -6,6 +6,9 @@ and learns from the event what becomes of the memory.
 
 from everyweave.programs import LOCAL_SHAPES, REGISTERS, is_value
 
+# The instructions that read a variable.
+READERS = ("load", "swap", "fetch", "cas", "await")
+
 MOST_STEPS = 8
 MOST_LOCAL = 64
 MOST_CHILDREN = 2
@@ -49,6 +52,18 @@ def copy_thread(thread):
 def is_cut(thread):
     # A thread that has not ended stands at a visible instruction.
     return thread.how is None and thread.steps == MOST_STEPS
+
+
+def how_now(thread):
+    if thread.how is not None:
+        return thread.how
+    return "cut" if is_cut(thread) else "waiting"
+
+
+def rows_of(threads):
+    """What an end tells of the threads, which stand in a dict by their numbers."""
+    rows = [threads[number] for number in sorted(threads)]
+    return tuple([(thread.number, how_now(thread), tuple(thread.registers)) for thread in rows])
 
 
 def pending(program, thread):

@@ -116,3 +116,53 @@ CLASSES_301 = {
     memory: make_program(*codes, *SEVEN, variables=shared(0, 0), threads=((0, 1), (1, 1), (2, 1), (3, 1)))
     for memory, codes in FORTY_THREE.items()
 }
+
+
+# Programs that show what graphs have and the other memories have not: few enough graphs for all to be grown.
+PLAIN, FLAG = (0, True), (0, False)
+WAIT_FOR_IT = ("await", 2, 1, 0)
+GRAPHS = {
+    "publishing": make_program((("store", 0, 0), ("store", 1, 0)), (("load", 1, 1), ("load", 2, 0)),
+                               variables=(PLAIN, FLAG), threads=((0, 1), (1, 0))),
+    "publishing and waiting": make_program((("store", 0, 0), ("store", 1, 0)), (WAIT_FOR_IT, ("load", 2, 0)),
+                                           variables=(PLAIN, FLAG), threads=((0, 1), (1, 1), (1, 1))),
+    "publishing plainly": make_program((("store", 0, 0), ("store", 1, 0)), (("load", 1, 1), ("load", 2, 0)),
+                                       variables=(PLAIN, PLAIN), threads=((0, 1), (1, 0))),
+    "plain mutex and a visitor": make_program((("lock", 0), ("store", 0, 0), ("unlock", 0)), (("load", 1, 0),),
+                                              variables=(PLAIN,), locks=1, threads=((0, 1), (0, 2), (1, 0))),
+    "load buffering": make_program((("load", 1, 0), ("store", 1, 0)), (("load", 1, 1), ("store", 0, 0)),
+                                   variables=(PLAIN, PLAIN), threads=((0, 1), (1, 2))),
+    "store buffering with fences": make_program((("store", 0, 0), ("fence",), ("load", 1, 1)),
+                                                (("store", 1, 0), ("fence",), ("load", 1, 0)),
+                                                variables=shared(0, 0), threads=((0, 1), (1, 1))),
+    "independent readers": make_program((("store", 0, 0),), (("store", 1, 0),), (("load", 1, 0), ("load", 2, 1)),
+                                        (("load", 1, 1), ("load", 2, 0)), variables=shared(0, 0),
+                                        threads=((0, 1), (1, 1), (2, 0), (3, 0))),
+    "two writers": make_program((("store", 0, 0), ("store", 1, 0)), (("store", 1, 0), ("store", 0, 0)),
+                                variables=shared(0, 0), threads=((0, 1), (1, 2))),
+    "updates": make_program((("fetch", 1, 0, 0), ("fetch", 1, 0, 0)), (("swap", 1, 0, 0),), (("store", 0, 0),),
+                            variables=shared(0), threads=((0, 1), (1, 5), (2, 9))),
+    "an elder writer": make_program((("store", 0, 0), ("store", 0, 1)), (("await", 1, 0, 0), ("load", 2, 0)),
+                                    variables=shared(0), threads=((0, 1), (1, 1))),
+    "cas by elder writers": make_program((("store", 0, 0), ("store", 0, 1)), (("cas", 1, 0, 0, 2), ("load", 2, 0)),
+                                         variables=shared(3), threads=((0, 1), (1, 1))),
+    "fetch beyond the values": make_program((("fetch", 1, 0, 0), ("fetch", 1, 0, 0)), (("store", 0, 0),),
+                                            variables=shared(500), threads=((0, 400), (1, 999))),
+    "joined children": make_program((("store", 0, 0), ("spawn", 1, 1, 0), ("join", 1), ("load", 2, 0)),
+                                    (("store", 0, 1),), variables=(PLAIN,), threads=((0, 3),)),
+    "a child without events": make_program((("store", 0, 0), ("spawn", 3, 1, 0)),
+                                           (("assert", 1),),
+                                           (("const", 2, 4), ("join", 2), ("load", 1, 0)),
+                                           variables=(PLAIN,), threads=((0, 3), (2, 0))),
+    "held for ever": make_program((("lock", 0), ("store", 0, 0), ("assert", 1)), (("lock", 0), ("load", 1, 0)),
+                                  variables=(PLAIN,), locks=1, threads=((0, 1), (1, 0))),
+}
+
+LOAD_FIRST, STORE_FIRST = ("load", 1, 0), ("store", 0, 0)
+LOAD_SECOND, STORE_SECOND = ("load", 1, 1), ("store", 1, 0)
+# Two threads with each variable: 12 times 125 graphs, and 19 times 79.
+GRAPHS_1500 = make_program((LOAD_FIRST,), (STORE_FIRST, LOAD_FIRST, STORE_FIRST), (LOAD_SECOND,) * 3,
+                           (STORE_SECOND,) * 4, variables=shared(0, 0), threads=((0, 0), (1, 1), (2, 0), (3, 1)))
+GRAPHS_1501 = make_program((LOAD_FIRST,), (STORE_FIRST, STORE_FIRST, STORE_FIRST, LOAD_FIRST), (LOAD_SECOND,) * 3,
+                           (STORE_SECOND, LOAD_SECOND, STORE_SECOND, STORE_SECOND), variables=shared(0, 0),
+                           threads=((0, 0), (1, 1), (2, 0), (3, 1)))

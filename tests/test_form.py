@@ -29,6 +29,20 @@ FUNCTIONS = {
         "ends": ["program", "memory"],
         "shortest": ["program", "memory", "thing"],
     },
+    "graphs.py": {
+        "empty_graph": ["program"],
+        "growths": ["program", "graph"],
+        "is_execution": ["program", "graph"],
+        "comes_before": ["program", "graph", "first", "second"],
+        "graphs": ["program"],
+        "graph_ends": ["program"],
+        "graph_races": ["program", "graph"],
+        "graph_things": ["program"],
+    },
+    "texts.py": {
+        "format_program": ["program"],
+        "parse_program": ["text"],
+    },
 }
 CLASSES = {
     "machine.py": {
@@ -47,6 +61,11 @@ CLASSES = {
             "__init__": ["self", "program", "memory", "schedule"],
             "whole": ["self"],
             "end": ["self"],
+        },
+    },
+    "desk.py": {
+        "Desk": {
+            "do": ["self", "line"],
         },
     },
     "errors.py": {

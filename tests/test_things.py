@@ -1,37 +1,14 @@
 """Told things, ends and shortest schedules (points 18 and 27)."""
 
 import unittest
-from itertools import combinations
 
 from everyweave.errors import BadArgument, BadProgram, TooLarge
 from everyweave.explorer import explore
 from everyweave.runs import Run
 from everyweave.things import ends, shortest, things
-from tests.helpers import MEMORIES, all_states, machine_behind, make_program, played_machines, shared
+from tests.helpers import (MEMORIES, WORDS, all_states, machine_behind, make_program, played_machines, shared,
+                           told_in)
 from tests.samples import FENCE, SMALL, STATES_3000, STATES_3001, fences
-
-WORDS = ("assert", "range", "loop", "held", "spawn")
-
-
-def told_in(program, machine):
-    """The told things, ends included, that hold in the state of the machine."""
-    rows = machine.end()[0]
-    told = [("failed", number, how) for number, how, _ in rows if how in WORDS]
-    told += [("cut", number) for number, how, _ in rows if how == "cut"]
-    if not machine.able():
-        told.append(("end", machine.end()))
-        if "waiting" in [how for _, how, _ in rows]:
-            told.append(("standstill",))
-    for first, second in combinations([row[0] for row in rows], 2):
-        events = [machine.label(first), machine.label(second)]
-        if None in events or events[0][3] != events[1][3]:
-            continue
-        kinds = {event[2] for event in events}
-        if kinds <= {"load", "own", "store", "buffer"} and kinds & {"store", "buffer"}:
-            if program[0][events[0][3]][1]:
-                told.append(("race", events[0][3], first, second))
-    return told
-
 
 def least_schedules(program, memory):
     """A dict from every told thing that holds somewhere to its shortest and least schedule."""
